@@ -1,0 +1,1 @@
+"""Syncedwords: codes in which a late listener finds the words."""

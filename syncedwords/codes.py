@@ -1,0 +1,56 @@
+"""What a code and a string are, and the checks of arguments."""
+
+from syncedwords.errors import BadValue
+
+LETTERS = "abc"
+MOST_WORDS = 6
+MOST_WORD_LETTERS = 5
+MOST_STRING_LETTERS = 24
+
+
+def has_letters(value, least, most):
+    """Tell whether the value is a string of so many letters, all of them a, b or c."""
+    if not isinstance(value, str) or not least <= len(value) <= most:
+        return False
+    return all([letter in LETTERS for letter in value])
+
+
+def is_code(value):
+    """Tell whether the value is a code."""
+    if not isinstance(value, tuple) or len(value) > MOST_WORDS:
+        return False
+    # A set can hold the items only once they are known to be strings.
+    if not all([has_letters(word, 1, MOST_WORD_LETTERS) for word in value]):
+        return False
+    return len(set(value)) == len(value)
+
+
+def is_string(value):
+    """Tell whether the value is a string of at most 24 letters."""
+    return has_letters(value, 0, MOST_STRING_LETTERS)
+
+
+def is_number(value, least, most):
+    """Tell whether the value is an integer from the least one to the most."""
+    # Python counts True and False among the integers; the document does not.
+    if not isinstance(value, int) or isinstance(value, bool):
+        return False
+    return least <= value <= most
+
+
+def check_code(value, name):
+    """Raise BadValue with the name of the argument if the value is not a code."""
+    if not is_code(value):
+        raise BadValue(name)
+
+
+def check_string(value, name):
+    """Raise BadValue with the name of the argument if the value is not a string of at most 24 letters."""
+    if not is_string(value):
+        raise BadValue(name)
+
+
+def check_number(value, least, most, name):
+    """Raise BadValue with the name of the argument if the value is not such an integer."""
+    if not is_number(value, least, most):
+        raise BadValue(name)
