@@ -30,12 +30,25 @@ def is_string(value):
     return has_letters(value, 0, MOST_STRING_LETTERS)
 
 
+def is_integer(value):
+    """Tell whether the value is an integer."""
+    # Python counts True and False among the integers; the document does not.
+    return isinstance(value, int) and not isinstance(value, bool)
+
+
 def is_number(value, least, most):
     """Tell whether the value is an integer from the least one to the most."""
-    # Python counts True and False among the integers; the document does not.
-    if not isinstance(value, int) or isinstance(value, bool):
-        return False
-    return least <= value <= most
+    return is_integer(value) and least <= value <= most
+
+
+def is_ascending(row):
+    """Tell whether each item of the row is less than the next one."""
+    return all([item < further for item, further in zip(row, row[1:])])
+
+
+def is_tuple_of(value, many):
+    """Tell whether the value is a tuple of so many items."""
+    return isinstance(value, tuple) and len(value) == many
 
 
 def check_code(value, name):

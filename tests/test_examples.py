@@ -22,6 +22,46 @@ MADE = '''
 (('a', 'ba', 'ab'), ('b', 'bc', 'cb'))
 '''
 
+UNIQUE = '''
+>>> from syncedwords.unique import accepts_unique, first_ambiguous, is_unique, rests, unique_evidence
+>>> is_unique(("a", "ab", "ba")), first_ambiguous(("a", "ab", "ba")), rests(("a", "ab", "ba"))
+(False, 'aba', ('', 'a', 'b'))
+>>> is_unique(("a", "ab", "bb")), rests(("a", "ab", "bb")), unique_evidence(("a", "ab", "bb"))
+(True, ('b',), ('unique', ('b',)))
+>>> accepts_unique(("a", "ab", "ba"), ("two", ((0, 2), (1, 0)))), accepts_unique(("a", "ab", "ba"), ("unique", ("a", "b")))
+(True, False)
+>>> accepts_unique(("ab", "c"), ("unique", ())), first_ambiguous(("a", "abb", "bba")), rests(("a", "abb", "bba"))
+(True, 'abba', ('', 'a', 'bb'))
+'''
+
+RINGS = '''
+>>> from syncedwords.rings import count_cuts, count_necklaces, index_of_cut, is_cut, least_rotation, nth_cut, offset, root, rotated, words_of_cut
+>>> turned = ("ab", "ba")
+>>> count_cuts(turned, "abab"), nth_cut(turned, "abab", 1), words_of_cut(turned, "abab", (1, 3)), index_of_cut(turned, "abab", (0, 1)) is None
+(2, (1, 3), (1, 1), True)
+>>> count_cuts(("aa",), "aa"), count_cuts(("a", "ab"), "aba"), nth_cut(("a", "b", "ab"), "ab", 1), is_cut(("abb",), "bab", (1,))
+(2, 1, (0, 1), True)
+>>> root("abab"), root("aba"), least_rotation("bab"), offset("abab", "baba"), offset("ab", "aa") is None, rotated("abc", 2)
+(('ab', 2), ('aba', 1), ('abb', 1), 1, True, 'cab')
+>>> count_necklaces(turned, 4), count_necklaces(("a", "ab"), 3), count_necklaces(("a", "b", "c"), 2), count_necklaces((), 3)
+(1, 1, 3, 0)
+'''
+
+RANKS = '''
+>>> from syncedwords.ranks import accepts_sync, sync_evidence
+>>> from syncedwords.sync import delay, is_synced, longest_unsynced, states
+>>> states(("a", "ab")), delay(("a", "ab")), is_synced(("a", "ab")), longest_unsynced(("a", "ab"))
+([None, (1, 1)], 1, True, '')
+>>> sync_evidence(("a", "ab"))
+('ranks', (((0, 1), 1), ((1, 0), 1), ((1, 1), 1)), ((0, 1), (1, 0)))
+>>> delay(("ab", "ba")), is_synced(("ab", "ba")), accepts_sync(("ab", "ba"), ("ring", "ab", (0,), (1,)))
+(None, False, True)
+>>> delay(("a", "b", "ab")), is_synced(("a", "b", "ab")), accepts_sync(("a", "b", "ab"), ("ring", "ab", (0,), (0, 1)))
+(1, False, True)
+>>> delay(("a", "ab", "abb")), longest_unsynced(("a", "ab", "abb")), delay(()), sync_evidence(())
+(2, 'b', 0, ('ranks', (), ()))
+'''
+
 
 class InterfaceExamples(unittest.TestCase):
     def run_examples(self, name, text):
@@ -34,6 +74,15 @@ class InterfaceExamples(unittest.TestCase):
 
     def test_made(self):
         self.run_examples("syncedwords/made.py", MADE)
+
+    def test_unique(self):
+        self.run_examples("syncedwords/unique.py", UNIQUE)
+
+    def test_rings(self):
+        self.run_examples("syncedwords/rings.py", RINGS)
+
+    def test_ranks(self):
+        self.run_examples("syncedwords/ranks.py", RANKS)
 
     def test_readme(self):
         root = os.path.dirname(os.path.dirname(os.path.abspath(__file__)))

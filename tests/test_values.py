@@ -10,9 +10,17 @@ from syncedwords.errors import CodeError
 from syncedwords.made import backwards, generators, have_same, needless, renamed
 from syncedwords.parses import boundaries, common_boundaries, count_parses, index_of_parse
 from syncedwords.parses import is_message, nth_parse, string_of
+from syncedwords.ranks import accepts_sync, sync_evidence
+from syncedwords.rings import count_cuts, count_necklaces, index_of_cut, is_cut, is_ring, least_rotation, nth_cut
+from syncedwords.rings import offset, root, rotated, words_of_cut
+from syncedwords.sync import delay, is_synced, longest_unsynced, states
+from syncedwords.unique import accepts_unique, first_ambiguous, is_unique, rests, unique_evidence
 from tests.oracle import CodeCase
 
 CODE = ("ab", "a", "aab", "aa")
+LATE = ("a", "ab", "bb")
+SYNCED = ("a", "ab")
+RANKS = ("ranks", (((0, 1), 1), ((1, 0), 1), ((1, 1), 1)), ((0, 1), (1, 0)))
 
 # Each function with arguments, and what it returns, of just this kind.
 RESULTS = (
@@ -39,6 +47,43 @@ RESULTS = (
     (renamed, (CODE, "cab"), ("ca", "c", "cca", "cc")),
     (have_same, (CODE, ("a", "ab")), True),
     (have_same, (CODE, ("a", "b")), False),
+    (is_unique, (CODE,), False),
+    (is_unique, (LATE,), True),
+    (rests, (LATE,), ("b",)),
+    (rests, (CODE,), ("", "a", "ab", "b")),
+    (first_ambiguous, (CODE,), "aa"),
+    (first_ambiguous, (LATE,), None),
+    (unique_evidence, (LATE,), ("unique", ("b",))),
+    (accepts_unique, (LATE, ("unique", ("b",))), True),
+    (accepts_unique, (CODE, ("two", ((1, 1), (3,)))), True),
+    (accepts_unique, (CODE, ["two", [[1, 1], [3]]]), False),
+    (is_ring, ("abab",), True),
+    (is_ring, (["abab"],), False),
+    (is_cut, (CODE, "aab", (0, 1)), True),
+    (is_cut, (CODE, "aab", [0, 1]), False),
+    (count_cuts, (CODE, "aab"), 2),
+    (nth_cut, (CODE, "aab", 1), (0, 1)),
+    (index_of_cut, (CODE, "aab", (0, 1)), 1),
+    (index_of_cut, (CODE, "aab", [0, 1]), None),
+    (words_of_cut, (CODE, "aab", (0, 1)), (1, 0)),
+    (rotated, ("aab", 2), "baa"),
+    (root, ("abab",), ("ab", 2)),
+    (least_rotation, ("bab",), ("abb", 1)),
+    (offset, ("abab", "baba"), 1),
+    (offset, ("ab", "aa"), None),
+    (count_necklaces, (CODE, 3), 1),
+    (states, (CODE,), [None, (0, 1), (2, 1), (2, 2), (3, 1)]),
+    (states, ((),), [None]),
+    (delay, (SYNCED,), 1),
+    (delay, (("ab", "ba"),), None),
+    (is_synced, (SYNCED,), True),
+    (is_synced, (("ab", "ba"),), False),
+    (longest_unsynced, (("a", "ab", "abb"),), "b"),
+    (longest_unsynced, (("a",),), None),
+    (sync_evidence, (SYNCED,), RANKS),
+    (accepts_sync, (SYNCED, RANKS), True),
+    (accepts_sync, (("ab", "ba"), ["ring", "ab", [0], [1]]), False),
+    (accepts_sync, (("ab", "ba"), ("ring", "ab", (0,), (1,))), True),
 )
 
 INTERFACE = {
@@ -52,6 +97,17 @@ INTERFACE = {
         "needless": "code", "generators": "code", "backwards": "code", "renamed": "code order",
         "have_same": "code other",
     },
+    "syncedwords.unique": {
+        "is_unique": "code", "rests": "code", "first_ambiguous": "code", "unique_evidence": "code",
+        "accepts_unique": "code value",
+    },
+    "syncedwords.rings": {
+        "is_ring": "value", "is_cut": "code ring value", "count_cuts": "code ring", "nth_cut": "code ring index",
+        "index_of_cut": "code ring value", "words_of_cut": "code ring cut", "rotated": "ring many", "root": "ring",
+        "least_rotation": "ring", "offset": "first second", "count_necklaces": "code many",
+    },
+    "syncedwords.sync": {"states": "code", "delay": "code", "is_synced": "code", "longest_unsynced": "code"},
+    "syncedwords.ranks": {"sync_evidence": "code", "accepts_sync": "code value"},
 }
 
 WRONG_CALLS = (
@@ -65,6 +121,23 @@ WRONG_CALLS = (
     (have_same, (CODE, list(CODE))),
     (renamed, (CODE, ["a", "b", "c"])),
     (generators, ([["a"], "b"],)),
+    (rests, (list(LATE),)),
+    (accepts_unique, (list(LATE), ["unique", ["b"]])),
+    (nth_cut, (CODE, "aab", [1])),
+    (words_of_cut, (CODE, "aab", [0, 1])),
+    (offset, ("aab", ["aab"])),
+    (count_necklaces, (CODE, [3])),
+    (states, (list(SYNCED),)),
+    (accepts_sync, (list(SYNCED), [RANKS])),
+)
+
+# Calls whose evidence is not told by the document alone.
+FREE = (
+    (unique_evidence, (CODE,)),
+    (unique_evidence, (("a", "ab", "ba"),)),
+    (sync_evidence, (("ab", "ba"),)),
+    (sync_evidence, (CODE,)),
+    (sync_evidence, (("aab", "abb", "baa", "bba"),)),
 )
 
 
@@ -86,6 +159,22 @@ class Results(CodeCase):
                 kept = copy.deepcopy(arguments)
                 function(*arguments)
                 self.assert_same(arguments, kept)
+
+
+    def test_equal_calls_return_equal_evidence(self):
+        told = [function(*copy.deepcopy(arguments)) for function, arguments in FREE]
+        for _ in range(3):
+            for (function, arguments), expected in list(zip(FREE, told))[::-1]:
+                self.assert_same(function(*copy.deepcopy(arguments)), expected)
+
+    def test_a_returned_list_is_not_used_again(self):
+        for function, arguments, expected in RESULTS:
+            if isinstance(expected, list):
+                with self.subTest(function=function.__name__, arguments=arguments):
+                    result = function(*arguments)
+                    result.append("more")
+                    result[0] = "other"
+                    self.assert_same(function(*arguments), expected)
 
 
 class AfterAnError(CodeCase):
