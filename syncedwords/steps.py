@@ -33,3 +33,9 @@ def led_back(leads, states, letter):
     """List the states from which the letter leads to one of the states, ascending."""
     table = leads[letter]
     return [state for state in range(len(table)) if any([further in states for further in table[state]])]
+
+
+def states_of_word(code, word):
+    """List the states of a reader along the word, from the boundary ahead of it to the one behind it."""
+    states = all_states(code)
+    return [0] + [states.index((word, letters)) for letters in range(1, len(code[word]))] + [0]

@@ -62,6 +62,48 @@ RANKS = '''
 (2, 'b', 0, ('ranks', (), ()))
 '''
 
+HEARING = '''
+>>> from syncedwords.hearing import accepts_place, place_evidence
+>>> from syncedwords.listeners import first_known, is_observable, known_boundaries, known_words, next_letters, observable_rest, states_at
+>>> late = ("a", "ab")
+>>> known_boundaries(late, "aab"), known_words(late, "aab"), first_known(late, "aab"), states_at(late, "a", 1)
+((0, 1, 3), ((0, 0), (1, 1)), 1, (0, 1))
+>>> is_observable(late, "bb"), known_boundaries(late, "bb") is None, observable_rest(late, "abba"), next_letters(late, "ab")
+(False, True, 'ba', 'a')
+>>> known_boundaries(("ab", "ba"), "aba"), known_boundaries(("ab", "ba"), "aa"), known_words(("a", "b", "ab"), "ab")
+((), (1,), ())
+>>> place_evidence(late, "a", 1)[0], accepts_place(late, "a", 1, ("open", (0, 1)))
+('open', True)
+>>> accepts_place(late, "aab", 1, ("known", ((0, 1), (0, 1)), ((0,), (1,), (0, 1)))), accepts_place(late, "a", 0, ("known", ((0, 1),), ((0,), (0, 1))))
+(True, True)
+'''
+
+PREFIXES = '''
+>>> from syncedwords.prefixes import accepts_decoder, count_strings, decoder_evidence, decoder_states, is_synchronizing, left_behind, resolving, shortest
+>>> code = ("a", "ba", "bb")
+>>> decoder_states(code), left_behind(code, "bb"), is_synchronizing(code, "a"), shortest(code), count_strings(code, 3)
+(('', 'b'), ('', 'b'), True, 'a', (8, 7))
+>>> stuck = ("aa", "ab", "ba", "bb")
+>>> decoder_states(stuck), shortest(stuck) is None, resolving(stuck, "", "a") is None, resolving(stuck, "a", "b")
+(('', 'a', 'b'), True, True, 'a')
+>>> accepts_decoder(stuck, ("stuck", (("", "a"), ("", "b"), ("a", ""), ("b", "")))), accepts_decoder(code, ("string", "ba")), decoder_evidence(stuck)[0]
+(True, True, 'stuck')
+>>> left_behind(("ab", "b"), "a"), left_behind(("ab", "b"), "aa"), shortest(("aab", "ab", "b")), shortest(("a",)), shortest(("aa",)) is None
+(('a',), (), 'b', '', True)
+'''
+
+LENGTHS = '''
+>>> from syncedwords.lengths import extended, first_failing, kraft_sum, more_words, necklaces, word_necklaces
+>>> [necklaces(2, length) for length in (1, 2, 3, 4, 5, 6)], [word_necklaces((1, 1), length) for length in (1, 2, 3, 4, 5, 6)]
+([2, 1, 2, 3, 6, 9], [1, 1, 1, 1, 2, 2])
+>>> first_failing(2, (1, 1)) is None, first_failing(2, (0, 2)), first_failing(1, (0, 1)), first_failing(2, (2, 1))
+(True, 2, 2, 2)
+>>> more_words(2, (1, 1), 3), more_words(2, (1, 1), 4), more_words(2, (0, 1), 1), more_words(2, (2, 1), 3) is None
+(1, 2, 1, True)
+>>> extended(2, (), 3), extended(2, (1,), 4), extended(2, (0,), 3), kraft_sum(2, (1, 1)), kraft_sum(2, (2, 1)), kraft_sum(3, ())
+((2, 0, 0), (1, 1, 1, 1), (0, 1, 2), (3, 4), (5, 4), (0, 1))
+'''
+
 
 class InterfaceExamples(unittest.TestCase):
     def run_examples(self, name, text):
@@ -83,6 +125,15 @@ class InterfaceExamples(unittest.TestCase):
 
     def test_ranks(self):
         self.run_examples("syncedwords/ranks.py", RANKS)
+
+    def test_hearing(self):
+        self.run_examples("syncedwords/hearing.py", HEARING)
+
+    def test_prefixes(self):
+        self.run_examples("syncedwords/prefixes.py", PREFIXES)
+
+    def test_lengths(self):
+        self.run_examples("syncedwords/lengths.py", LENGTHS)
 
     def test_readme(self):
         root = os.path.dirname(os.path.dirname(os.path.abspath(__file__)))

@@ -7,9 +7,7 @@ from syncedwords.ranks import accepts_sync, sync_evidence
 from syncedwords.sync import delay, is_synced, states
 from syncedwords.unique import is_unique
 from tests.families import FIVE, PERIODIC, chosen_codes, small_codes
-from tests.oracle import CODES, CodeCase, strings_up_to
-from tests.test_rings import all_cuts, make_words
-from tests.test_sync import LATE, leads, pair_ranks
+from tests.oracle import CODES, LATE, CodeCase, all_cuts, leads, make_words, pair_ranks, strings_up_to
 
 LATER = ("a", "ab")
 TOLD = ("ranks", (((0, 1), 1), ((1, 0), 1), ((1, 1), 1)), ((0, 1), (1, 0)))

@@ -11,7 +11,7 @@ from syncedwords.rings import offset, root, rotated, words_of_cut
 from syncedwords.sync import is_synced
 from syncedwords.unique import is_unique
 from tests.families import chosen_codes, small_codes
-from tests.oracle import CODES, CodeCase, strings_up_to
+from tests.oracle import CODES, CodeCase, all_cuts, make_words, strings_up_to
 
 RINGS = strings_up_to(4)[1:] + ["aabba", "ababab", "aaaaaa", "abcabc", "cbcbcb", "aabbaab", "ccbcbcbc", "abbbabb"]
 POWERS = ("a", "aa", "aaa", "aaaa", "aaaaa")
@@ -19,28 +19,6 @@ NO_TUPLES_OF_PLACES = (
     None, True, False, 0, 1, "", "0", b"", b"\0", [], [0], [0, 2], {0}, {0: 1}, range(1), 0.0, (), (None,), ("0",),
     (True,), (False,), (0.0,), ((0,),), ([0],), (0, (1,)), (0, None), (0, "1"), (0, 2.0), (False, 2), (0, True),
 )
-
-
-def make_words(code, ring, places):
-    """Tell whether the places make words, and list the words, going letter by letter around the ring."""
-    words = []
-    for number, place in enumerate(places):
-        end = places[(number + 1) % len(places)]
-        word = ring[place]
-        at = (place + 1) % len(ring)
-        while at != end:
-            word += ring[at]
-            at = (at + 1) % len(ring)
-        words.append(word)
-    return all(word in code for word in words), words
-
-
-def all_cuts(code, ring):
-    """All cuts of the ring, in the order of tuples."""
-    places = [
-        row for many in range(1, len(ring) + 1) for row in itertools.combinations(range(len(ring)), many)
-    ]
-    return sorted(row for row in places if make_words(code, ring, row)[0])
 
 
 def turn(ring, many):

@@ -7,34 +7,7 @@ from syncedwords.made import backwards, renamed
 from syncedwords.sync import delay, is_synced, longest_unsynced, states
 from syncedwords.unique import is_unique
 from tests.families import FIVE, PERIODIC, chosen_codes, small_codes
-from tests.oracle import CODES, CodeCase, strings_up_to
-
-LATE = ("ababa", "acaab", "bbbac", "cacac", "aabbb", "baca")
-
-
-def ways_of(code, string):
-    """The sets of places that are boundaries, one for each way in which the string stands in a message."""
-    found = set()
-    # The string begins behind some first letters of a word (not all), and words follow.
-    waiting = [(0, word[gone:], frozenset([0] if gone == 0 else [])) for word in code for gone in range(len(word))]
-    if not code and string == "":
-        found.add(frozenset([0]))
-    seen = set()
-    while waiting:
-        place, left, places = waiting.pop()
-        rest = string[place:]
-        if (place, left, places) in seen:
-            continue
-        seen.add((place, left, places))
-        if left.startswith(rest) and len(left) > len(rest):
-            found.add(places)
-        elif rest.startswith(left):
-            there = place + len(left)
-            if there == len(string):
-                found.add(places | {there})
-            else:
-                waiting += [(there, word, places | {there}) for word in code]
-    return found
+from tests.oracle import CODES, LATE, CodeCase, all_states, pair_ranks, strings_up_to, ways_of
 
 
 def stands_unsynced(code, string):
@@ -50,44 +23,6 @@ def listed_delay(code, most, letters="ab"):
         if not any(stands_unsynced(code, string) for string in strings):
             return many
     return None
-
-
-def all_states(code):
-    listed = [None]
-    for number, word in enumerate(code):
-        listed += [(number, letters) for letters in range(1, len(word))]
-    return listed
-
-
-def leads(code, letter):
-    """From which states to which ones the letter leads: pairs of states as the program tells them."""
-    found = set()
-    for number, word in enumerate(code):
-        for at, there in enumerate(word):
-            if there == letter:
-                here = None if at == 0 else (number, at)
-                found.add((here, None if at + 1 == len(word) else (number, at + 1)))
-    return found
-
-
-def pair_ranks(code):
-    """The rank of each pair that is apart, by going on from it again and again; None for those without one."""
-    apart = [pair for pair in itertools.product(all_states(code), repeat=2) if pair != (None, None)]
-    further = {pair: set() for pair in apart}
-    for letter in "abc":
-        ways = leads(code, letter)
-        for first, one in ways:
-            for second, other in ways:
-                if (first, second) in further and (one, other) in further:
-                    further[first, second].add((one, other))
-    ranks = {pair: 0 for pair in apart}
-    # A way with more pairs than there are comes to one of them twice, and then has no end.
-    for step in range(1, len(apart) + 2):
-        longer = {pair: 1 + max([ranks[there] for there in further[pair]], default=0) for pair in apart}
-        if longer == ranks:
-            return ranks
-        ranks = longer
-    return {pair: rank if rank <= len(apart) else None for pair, rank in ranks.items()}
 
 
 class States(CodeCase):

@@ -7,9 +7,15 @@ import unittest
 
 from syncedwords.codes import is_code, is_string
 from syncedwords.errors import CodeError
+from syncedwords.hearing import accepts_place, place_evidence
+from syncedwords.lengths import extended, first_failing, kraft_sum, more_words, necklaces, word_necklaces
+from syncedwords.listeners import first_known, is_observable, known_boundaries, known_words, next_letters
+from syncedwords.listeners import observable_rest, states_at
 from syncedwords.made import backwards, generators, have_same, needless, renamed
 from syncedwords.parses import boundaries, common_boundaries, count_parses, index_of_parse
 from syncedwords.parses import is_message, nth_parse, string_of
+from syncedwords.prefixes import accepts_decoder, count_strings, decoder_evidence, decoder_states, is_synchronizing
+from syncedwords.prefixes import left_behind, resolving, shortest
 from syncedwords.ranks import accepts_sync, sync_evidence
 from syncedwords.rings import count_cuts, count_necklaces, index_of_cut, is_cut, is_ring, least_rotation, nth_cut
 from syncedwords.rings import offset, root, rotated, words_of_cut
@@ -20,6 +26,10 @@ from tests.oracle import CodeCase
 CODE = ("ab", "a", "aab", "aa")
 LATE = ("a", "ab", "bb")
 SYNCED = ("a", "ab")
+PREFIX = ("a", "ba", "bb")
+PAIRED = ("aa", "ab", "ba", "bb")
+STUCK = ("stuck", (("", "a"), ("", "b"), ("a", ""), ("b", "")))
+KNOWN = ("known", ((0, 1), (0, 1)), ((0,), (1,), (0, 1)))
 RANKS = ("ranks", (((0, 1), 1), ((1, 0), 1), ((1, 1), 1)), ((0, 1), (1, 0)))
 
 # Each function with arguments, and what it returns, of just this kind.
@@ -84,6 +94,46 @@ RESULTS = (
     (accepts_sync, (SYNCED, RANKS), True),
     (accepts_sync, (("ab", "ba"), ["ring", "ab", [0], [1]]), False),
     (accepts_sync, (("ab", "ba"), ("ring", "ab", (0,), (1,))), True),
+    (is_observable, (SYNCED, "aab"), True),
+    (is_observable, (SYNCED, "bb"), False),
+    (states_at, (SYNCED, "a", 1), (0, 1)),
+    (known_boundaries, (SYNCED, "aab"), (0, 1, 3)),
+    (known_boundaries, (SYNCED, "bb"), None),
+    (known_boundaries, (("ab", "ba"), "aba"), ()),
+    (known_words, (SYNCED, "aab"), ((0, 0), (1, 1))),
+    (known_words, (SYNCED, "bb"), None),
+    (known_words, (SYNCED, "a"), ()),
+    (first_known, (SYNCED, "aab"), 1),
+    (first_known, (SYNCED, "bb"), None),
+    (observable_rest, (SYNCED, "abba"), "ba"),
+    (next_letters, (SYNCED, "a"), "ab"),
+    (next_letters, (SYNCED, "bb"), None),
+    (place_evidence, (SYNCED, "a", 1), ("open", (0, 1))),
+    (accepts_place, (SYNCED, "aab", 1, KNOWN), True),
+    (accepts_place, (SYNCED, "aab", 1, ["known", [[0, 1], [0, 1]], [[0], [1], [0, 1]]]), False),
+    (accepts_place, (SYNCED, "a", 1, ("open", (0, 1))), True),
+    (decoder_states, (PREFIX,), ("", "b")),
+    (left_behind, (PREFIX, "bb"), ("", "b")),
+    (left_behind, (("ab", "b"), "aa"), ()),
+    (is_synchronizing, (PREFIX, "a"), True),
+    (is_synchronizing, (PREFIX, "b"), False),
+    (shortest, (PREFIX,), "a"),
+    (shortest, (PAIRED,), None),
+    (resolving, (PAIRED, "a", "b"), "a"),
+    (resolving, (PAIRED, "", "a"), None),
+    (count_strings, (PREFIX, 3), (8, 7)),
+    (accepts_decoder, (PREFIX, ("string", "ba")), True),
+    (accepts_decoder, (PAIRED, STUCK), True),
+    (accepts_decoder, (PAIRED, ["stuck", [["", "a"], ["a", ""]]]), False),
+    (necklaces, (2, 6), 9),
+    (word_necklaces, ((1, 1), 6), 2),
+    (first_failing, (2, (2, 1)), 2),
+    (first_failing, (2, (1, 1)), None),
+    (more_words, (2, (1, 1), 4), 2),
+    (more_words, (2, (2, 1), 3), None),
+    (extended, (2, (1,), 4), (1, 1, 1, 1)),
+    (extended, (2, (2, 1), 4), None),
+    (kraft_sum, (2, (1, 1)), (3, 4)),
 )
 
 INTERFACE = {
@@ -108,6 +158,21 @@ INTERFACE = {
     },
     "syncedwords.sync": {"states": "code", "delay": "code", "is_synced": "code", "longest_unsynced": "code"},
     "syncedwords.ranks": {"sync_evidence": "code", "accepts_sync": "code value"},
+    "syncedwords.listeners": {
+        "is_observable": "code string", "states_at": "code string place", "known_boundaries": "code string",
+        "known_words": "code string", "first_known": "code string", "observable_rest": "code string",
+        "next_letters": "code string",
+    },
+    "syncedwords.hearing": {"place_evidence": "code string place", "accepts_place": "code string place value"},
+    "syncedwords.prefixes": {
+        "decoder_states": "code", "left_behind": "code string", "is_synchronizing": "code string", "shortest": "code",
+        "resolving": "code first second", "count_strings": "code many", "decoder_evidence": "code",
+        "accepts_decoder": "code value",
+    },
+    "syncedwords.lengths": {
+        "necklaces": "size length", "word_necklaces": "counts length", "first_failing": "size counts",
+        "more_words": "size counts length", "extended": "size counts most", "kraft_sum": "size counts",
+    },
 }
 
 WRONG_CALLS = (
@@ -129,6 +194,16 @@ WRONG_CALLS = (
     (count_necklaces, (CODE, [3])),
     (states, (list(SYNCED),)),
     (accepts_sync, (list(SYNCED), [RANKS])),
+    (states_at, (SYNCED, "bb", 0)),
+    (states_at, (SYNCED, "aab", [0])),
+    (known_words, (list(SYNCED), "aab")),
+    (accepts_place, (SYNCED, "aab", [1], [KNOWN])),
+    (left_behind, (list(PREFIX), "a")),
+    (resolving, (PREFIX, ["b"], "")),
+    (decoder_evidence, (SYNCED,)),
+    (shortest, (("aaaaa", "baaaa", "ca"),)),
+    (more_words, (2, [1, 1], 3)),
+    (extended, (2, (1, 1), [3])),
 )
 
 # Calls whose evidence is not told by the document alone.
@@ -138,6 +213,11 @@ FREE = (
     (sync_evidence, (("ab", "ba"),)),
     (sync_evidence, (CODE,)),
     (sync_evidence, (("aab", "abb", "baa", "bba"),)),
+    (place_evidence, (SYNCED, "aab", 1)),
+    (place_evidence, (("ab", "ba"), "ababab", 2)),
+    (decoder_evidence, (PREFIX,)),
+    (decoder_evidence, (PAIRED,)),
+    (decoder_evidence, (("abcab", "bcabc", "cabca"),)),
 )
 
 
