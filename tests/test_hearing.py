@@ -297,6 +297,15 @@ class OpenRuns(CodeCase):
         self.assert_run(LATER, "a", 1, (False, 1), False)
         self.assert_run(LATER, "", 0, (True,), False)
 
+    def test_negative_numbers(self):
+        """They are no states, though Python would count them from the end of a list."""
+        self.assert_run(("ab", "ba"), "aab", 2, (2, 0, 1, 0), True)
+        self.assert_run(("ab", "ba"), "aab", 2, (-1, 0, 1, 0), False)
+        self.assert_run(("ab", "ba"), "aab", 0, (-1, 0, 1, 0), False)
+        for number in (-1, -2, -3):
+            self.assert_run(LATER, "", 0, (number,), False)
+            self.assert_run(("ab", "ba"), "", 0, (number,), False)
+
     def test_other_kinds(self):
         for run in NO_TUPLES + ([0, 1], {0, 1}, "01", b"\0\1", ((0, 1),), range(2), {0: 0, 1: 1}, iter((0, 1))):
             self.assert_run(LATER, "a", 1, run, False)

@@ -24,6 +24,7 @@ ALLOWED_METHODS = set(
 )
 # A run of examples adds the name _ to Python's own; in the package it is a name that is never read.
 BUILTINS = set(dir(builtins)) - {"_"}
+ITERATING = ("list", "tuple", "dict", "sorted", "sum", "any", "all", "enumerate", "zip", "reversed", "min", "max", "len")
 LIBRARY = {"heapq", "math", "itertools", "collections", "__future__"}
 BARRED = set(
     "register mro elements open input law version_info with_traceback add_note type typing enum Enum namedtuple "
@@ -126,6 +127,43 @@ class Language(unittest.TestCase):
         for place, node in nodes_of((ast.Name, ast.arg, ast.Attribute, ast.FunctionDef, ast.ClassDef)):
             for part in ("id", "arg", "attr", "name"):
                 self.assertNotIn(getattr(node, part, ""), BARRED, place)
+
+    def test_names_of_imports_are_not_given_again(self):
+        for path in package_files():
+            tree = tree_of(path)
+            taken = {alias.name for node in ast.walk(tree) if isinstance(node, ast.ImportFrom) for alias in node.names}
+            taken.update(node.name for node in ast.walk(tree) if isinstance(node, ast.ClassDef))
+            for node in ast.walk(tree):
+                if isinstance(node, ast.Name) and isinstance(node.ctx, ast.Store):
+                    self.assertNotIn(node.id, taken, f"{path}, line {node.lineno}")
+                elif isinstance(node, ast.arg):
+                    self.assertNotIn(node.arg, taken, f"{path}, line {node.lineno}")
+
+    def test_ranges_and_the_like_are_iterated_at_once(self):
+        for path in package_files():
+            tree = tree_of(path)
+            allowed = set()
+            for node in ast.walk(tree):
+                if isinstance(node, (ast.For, ast.comprehension)):
+                    allowed.add(node.iter)
+                elif isinstance(node, ast.Call) and getattr(node.func, "id", "") in ITERATING and node.args:
+                    allowed.add(node.args[0])
+            for node in ast.walk(tree):
+                if isinstance(node, ast.Call):
+                    name = getattr(node.func, "id", None) or getattr(node.func, "attr", None)
+                    if name in ("range", "zip", "enumerate", "reversed", "items", "keys", "values"):
+                        self.assertIn(node, allowed, f"{path}, line {node.lineno}")
+
+    def test_no_two_files_import_from_each_other(self):
+        imports = {}
+        for path in package_files():
+            module = os.path.relpath(path, ROOT)[:-len(".py")].replace(os.sep, ".")
+            imports[module] = {node.module for node in ast.walk(tree_of(path)) if isinstance(node, ast.ImportFrom)}
+        left = set(imports)
+        while left:
+            free = {module for module in left if not imports[module] & left}
+            self.assertTrue(free, left)
+            left -= free
 
     def test_no_float_and_no_percent_in_strings(self):
         for place, node in nodes_of(ast.Constant):
