@@ -72,12 +72,8 @@ def is_message(code, string):
     return count_parses(code, string) > 0
 
 
-def nth_parse(code, string, index):
-    """Return the parse of the string with the index."""
-    check_code(code, "code")
-    check_string(string, "string")
-    counts = counts_behind(code, string)
-    check_number(index, 0, counts[0] - 1, "index")
+def parse_at(code, string, counts, index):
+    """Return the parse of the string with the index, by the counts of the parses behind each of its places."""
     parse = []
     place = 0
     left = index
@@ -90,6 +86,15 @@ def nth_parse(code, string, index):
         parse.append(number)
         place += len(code[number])
     return tuple(parse)
+
+
+def nth_parse(code, string, index):
+    """Return the parse of the string with the index."""
+    check_code(code, "code")
+    check_string(string, "string")
+    counts = counts_behind(code, string)
+    check_number(index, 0, counts[0] - 1, "index")
+    return parse_at(code, string, counts, index)
 
 
 def index_of_parse(code, parse):

@@ -104,6 +104,36 @@ LENGTHS = '''
 ((2, 0, 0), (1, 1, 1, 1), (0, 1, 2), (3, 4), (5, 4), (0, 1))
 '''
 
+MAKING = '''
+>>> from syncedwords.making import accepts_journal, became, code_of, eliminated, made_code, told_journal
+>>> eliminated(("a", "b"), "b", 3), made_code(2, (1, 1, 1)), made_code(2, (2, 1)) is None, made_code(2, ())
+(('a', 'ba', 'bba'), ('a', 'ba', 'bba'), True, ())
+>>> told_journal(2, (1, 1, 1))
+(('keep', 'a'), ('drop', 'b'), ('keep', 'ba'), ('keep', 'bba'))
+>>> made_code(2, (0, 0, 2)), became(2, (1, 1, 1), "b"), became(2, (1, 1, 1), "aab"), became(2, (1, 1, 1), "abb")
+(('aab', 'bab'), ('dropped', 'b'), ('cut', (1, 2)), ('cut', (1,)))
+>>> accepts_journal(2, (1, 1, 1), (("drop", "a"), ("keep", "b"), ("keep", "ab"), ("keep", "aab")))
+True
+>>> code_of(2, (1, 1, 1), (("drop", "a"), ("keep", "b"), ("keep", "ab"), ("keep", "aab"))), accepts_journal(2, (1,), (("keep", "a"),))
+(('b', 'ab', 'aab'), False)
+'''
+
+CORRECTION = '''
+>>> from syncedwords.correction import accepts_errors, correction, errors_evidence, first_error, least_errors
+>>> from syncedwords.distance import distance, led
+>>> distance("abc", "ac"), distance("", "abab"), led("aab", (("drop",), ("keep",), ("keep",))), led("aab", (("keep",),)) is None
+(1, 4, 'ab', True)
+>>> code = ("ab", "ba")
+>>> least_errors(code, "aab"), correction(code, "aab"), first_error(code, "aab"), first_error(code, "aba") is None
+(1, 'ab', 2, True)
+>>> least_errors(code, "abaab"), correction(code, "abaab"), correction((), "abc"), correction(code, "abba")
+(1, 'abab', '', 'abba')
+>>> accepts_errors(code, "aab", 1, errors_evidence(code, "aab")), accepts_errors(code, "a", 1, ((), (("drop",),), ((1, 0, 0), (0, 1, 1))))
+(True, True)
+>>> accepts_errors(code, "a", 1, ((), (("drop",),), ((2, 0, 0), (0, 1, 1)))), accepts_errors(code, "ab", 2, ((), (("drop",), ("drop",)), ((2, 1, 2), (1, 0, 2), (0, 1, 1))))
+(False, False)
+'''
+
 
 class InterfaceExamples(unittest.TestCase):
     def run_examples(self, name, text):
@@ -134,6 +164,12 @@ class InterfaceExamples(unittest.TestCase):
 
     def test_lengths(self):
         self.run_examples("syncedwords/lengths.py", LENGTHS)
+
+    def test_making(self):
+        self.run_examples("syncedwords/making.py", MAKING)
+
+    def test_correction(self):
+        self.run_examples("syncedwords/correction.py", CORRECTION)
 
     def test_readme(self):
         root = os.path.dirname(os.path.dirname(os.path.abspath(__file__)))

@@ -6,12 +6,15 @@ import inspect
 import unittest
 
 from syncedwords.codes import is_code, is_string
+from syncedwords.correction import accepts_errors, correction, errors_evidence, first_error, least_errors
+from syncedwords.distance import distance, led
 from syncedwords.errors import CodeError
 from syncedwords.hearing import accepts_place, place_evidence
 from syncedwords.lengths import extended, first_failing, kraft_sum, more_words, necklaces, word_necklaces
 from syncedwords.listeners import first_known, is_observable, known_boundaries, known_words, next_letters
 from syncedwords.listeners import observable_rest, states_at
 from syncedwords.made import backwards, generators, have_same, needless, renamed
+from syncedwords.making import accepts_journal, became, code_of, eliminated, made_code, told_journal
 from syncedwords.parses import boundaries, common_boundaries, count_parses, index_of_parse
 from syncedwords.parses import is_message, nth_parse, string_of
 from syncedwords.prefixes import accepts_decoder, count_strings, decoder_evidence, decoder_states, is_synchronizing
@@ -19,6 +22,7 @@ from syncedwords.prefixes import left_behind, resolving, shortest
 from syncedwords.ranks import accepts_sync, sync_evidence
 from syncedwords.rings import count_cuts, count_necklaces, index_of_cut, is_cut, is_ring, least_rotation, nth_cut
 from syncedwords.rings import offset, root, rotated, words_of_cut
+from syncedwords.scanning import scan
 from syncedwords.sync import delay, is_synced, longest_unsynced, states
 from syncedwords.unique import accepts_unique, first_ambiguous, is_unique, rests, unique_evidence
 from tests.oracle import CodeCase
@@ -30,6 +34,8 @@ PREFIX = ("a", "ba", "bb")
 PAIRED = ("aa", "ab", "ba", "bb")
 STUCK = ("stuck", (("", "a"), ("", "b"), ("a", ""), ("b", "")))
 KNOWN = ("known", ((0, 1), (0, 1)), ((0,), (1,), (0, 1)))
+JOURNAL = (("drop", "a"), ("keep", "b"), ("keep", "ab"), ("keep", "aab"))
+NEAREST = ((), (("drop",),), ((1, 0, 0), (0, 1, 1)))
 RANKS = ("ranks", (((0, 1), 1), ((1, 0), 1), ((1, 1), 1)), ((0, 1), (1, 0)))
 
 # Each function with arguments, and what it returns, of just this kind.
@@ -134,6 +140,30 @@ RESULTS = (
     (extended, (2, (1,), 4), (1, 1, 1, 1)),
     (extended, (2, (2, 1), 4), None),
     (kraft_sum, (2, (1, 1)), (3, 4)),
+    (eliminated, (("a", "b"), "b", 3), ("a", "ba", "bba")),
+    (eliminated, (("a",), "a", 3), ()),
+    (made_code, (2, (1, 1, 1)), ("a", "ba", "bba")),
+    (made_code, (2, (2, 1)), None),
+    (told_journal, (2, (1, 1, 1)), (("keep", "a"), ("drop", "b"), ("keep", "ba"), ("keep", "bba"))),
+    (told_journal, (2, ()), ()),
+    (told_journal, (2, (2, 1)), None),
+    (accepts_journal, (2, (1, 1, 1), JOURNAL), True),
+    (accepts_journal, (2, (1, 1, 1), [list(step) for step in JOURNAL]), False),
+    (code_of, (2, (1, 1, 1), JOURNAL), ("b", "ab", "aab")),
+    (code_of, (2, (1, 1, 1), list(JOURNAL)), None),
+    (became, (2, (1, 1, 1), "b"), ("dropped", "b")),
+    (became, (2, (1, 1, 1), "aab"), ("cut", (1, 2))),
+    (distance, ("abc", "ac"), 1),
+    (led, ("aab", (("drop",), ("keep",), ("keep",))), "ab"),
+    (led, ("aab", (("keep",),)), None),
+    (least_errors, (("ab", "ba"), "aab"), 1),
+    (correction, (("ab", "ba"), "aab"), "ab"),
+    (first_error, (("ab", "ba"), "aab"), 2),
+    (first_error, (("ab", "ba"), "aba"), None),
+    (accepts_errors, (("ab", "ba"), "a", 1, NEAREST), True),
+    (accepts_errors, (("ab", "ba"), "a", 1, [[], [["drop"]], [[1, 0, 0], [0, 1, 1]]]), False),
+    (scan, ("a: 0",), [("word", "a", 1), ("sign", ":", 2), ("number", "0", 4), ("end", "", 5)]),
+    (scan, ("",), [("end", "", 1)]),
 )
 
 INTERFACE = {
@@ -173,6 +203,16 @@ INTERFACE = {
         "necklaces": "size length", "word_necklaces": "counts length", "first_failing": "size counts",
         "more_words": "size counts length", "extended": "size counts most", "kraft_sum": "size counts",
     },
+    "syncedwords.making": {
+        "eliminated": "words word most", "made_code": "size counts", "told_journal": "size counts",
+        "accepts_journal": "size counts value", "code_of": "size counts value", "became": "size counts ring",
+    },
+    "syncedwords.distance": {"distance": "first second", "led": "string steps"},
+    "syncedwords.correction": {
+        "least_errors": "code string", "correction": "code string", "first_error": "code string",
+        "errors_evidence": "code string", "accepts_errors": "code string number value",
+    },
+    "syncedwords.scanning": {"scan": "text"},
 }
 
 WRONG_CALLS = (
@@ -204,6 +244,18 @@ WRONG_CALLS = (
     (shortest, (("aaaaa", "baaaa", "ca"),)),
     (more_words, (2, [1, 1], 3)),
     (extended, (2, (1, 1), [3])),
+    (eliminated, (["a", "b"], "b", 3)),
+    (eliminated, (("a", "b"), ["b"], 3)),
+    (told_journal, (2, [1, 1])),
+    (code_of, (2, [1, 1], [list(step) for step in JOURNAL])),
+    (became, (2, (1, 1), ["a"])),
+    (became, (2, (2, 1), "a")),
+    (led, ("aab", [["drop"], ["keep"]])),
+    (distance, ("aab", ["aab"])),
+    (accepts_errors, (["ab", "ba"], "a", 1, [NEAREST])),
+    (accepts_errors, (("ab", "ba"), "a", [1], [NEAREST])),
+    (scan, (["a"],)),
+    (scan, ("a d",)),
 )
 
 # Calls whose evidence is not told by the document alone.
@@ -218,6 +270,9 @@ FREE = (
     (decoder_evidence, (PREFIX,)),
     (decoder_evidence, (PAIRED,)),
     (decoder_evidence, (("abcab", "bcabc", "cabca"),)),
+    (errors_evidence, (("ab", "ba"), "aab")),
+    (errors_evidence, (CODE, "abcba")),
+    (errors_evidence, ((), "ab")),
 )
 
 
