@@ -130,10 +130,8 @@ def told_journal(size, counts):
 
 def made_code(size, counts):
     """Return the made code, in order by length, or None if some length fails."""
-    journal = told_journal(size, counts)
-    if journal is None:
-        return None
-    return code_of(size, counts, journal)
+    # Where a length fails, there is no journal, and None is none.
+    return code_of(size, counts, told_journal(size, counts))
 
 
 def became(size, counts, ring):
