@@ -134,11 +134,44 @@ CORRECTION = '''
 (False, False)
 '''
 
+WRITING = '''
+>>> from syncedwords.reading import next_tokens, read_book, read_code
+>>> from syncedwords.writing import book_text, code_text, is_book
+>>> read_code("a ab ba"), read_book("a ab ba: 0 2; 1 0"), read_book(":")
+(('a', 'ab', 'ba'), (('a', 'ab', 'ba'), ((0, 2), (1, 0))), ((), ((),)))
+>>> code_text(("a", "ab")), book_text((("a",), ((0, 0), (), (0,)))), code_text(()), is_book((("a",), ()))
+('a ab', 'a: 0 0;; 0', '', False)
+>>> next_tokens("a ab", "code"), next_tokens("", "book"), next_tokens("a: 0", "book")
+(['a word', 'the end'], ['a word', '":"'], ['a number', '";"', 'the end'])
+
+>>> from syncedwords.reading import read_book
+>>> read_book("a ab: 0 2")
+raises TextError
+'''
+
+JOURNALS = '''
+>>> from syncedwords.broadcast import Broadcast
+>>> from syncedwords.journals import are_right, replayed
+>>> broadcast = Broadcast(("a", "ab"))
+>>> broadcast.act(("send", 1)), broadcast.act(("join",)), broadcast.act(("step",)), broadcast.heard(0), broadcast.knows(0), broadcast.inside()
+(1, 2, 3, 'b', (1,), None)
+>>> broadcast.act(("join",)), broadcast.act(("send", 0)), broadcast.knows(0), broadcast.knows(1), broadcast.sent(), broadcast.joined()
+(4, 5, (1,), (0,), 'aba', (1, 2))
+>>> broadcast.records()[-1], broadcast.undo(), broadcast.sent(), broadcast.act(("leave", 0)), broadcast.joined()
+((('send', 0), ((1,), (0,))), ('send', 0), 'ab', 5, (2,))
+>>> are_right(("a", "ab"), ((("join",), ((),)), (("send", 0), ((0,),)))), replayed(("ab", "ba"), (("send", 1), ("step",))).sent()
+(True, 'ba')
+'''
+
 
 class InterfaceExamples(unittest.TestCase):
     def run_examples(self, name, text):
         examples = doctest.DocTestParser().get_doctest(text, {}, name, None, None)
         self.assertGreater(len(examples.examples), 0)
+        for example in examples.examples:
+            if example.want.startswith("raises "):
+                example.exc_msg = example.want.removeprefix("raises ")
+                example.options[doctest.IGNORE_EXCEPTION_DETAIL] = True
         told = []
         result = doctest.DocTestRunner(verbose=False).run(examples, out=told.append)
         self.assertEqual(result.failed, 0, "".join(told))
@@ -170,6 +203,12 @@ class InterfaceExamples(unittest.TestCase):
 
     def test_correction(self):
         self.run_examples("syncedwords/correction.py", CORRECTION)
+
+    def test_writing(self):
+        self.run_examples("syncedwords/writing.py", WRITING)
+
+    def test_journals(self):
+        self.run_examples("syncedwords/journals.py", JOURNALS)
 
     def test_readme(self):
         root = os.path.dirname(os.path.dirname(os.path.abspath(__file__)))

@@ -5,11 +5,13 @@ import importlib
 import inspect
 import unittest
 
+from syncedwords.broadcast import Broadcast
 from syncedwords.codes import is_code, is_string
 from syncedwords.correction import accepts_errors, correction, errors_evidence, first_error, least_errors
 from syncedwords.distance import distance, led
 from syncedwords.errors import CodeError
 from syncedwords.hearing import accepts_place, place_evidence
+from syncedwords.journals import are_right, replayed
 from syncedwords.lengths import extended, first_failing, kraft_sum, more_words, necklaces, word_necklaces
 from syncedwords.listeners import first_known, is_observable, known_boundaries, known_words, next_letters
 from syncedwords.listeners import observable_rest, states_at
@@ -20,11 +22,13 @@ from syncedwords.parses import is_message, nth_parse, string_of
 from syncedwords.prefixes import accepts_decoder, count_strings, decoder_evidence, decoder_states, is_synchronizing
 from syncedwords.prefixes import left_behind, resolving, shortest
 from syncedwords.ranks import accepts_sync, sync_evidence
+from syncedwords.reading import next_tokens, read_book, read_code
 from syncedwords.rings import count_cuts, count_necklaces, index_of_cut, is_cut, is_ring, least_rotation, nth_cut
 from syncedwords.rings import offset, root, rotated, words_of_cut
 from syncedwords.scanning import scan
 from syncedwords.sync import delay, is_synced, longest_unsynced, states
 from syncedwords.unique import accepts_unique, first_ambiguous, is_unique, rests, unique_evidence
+from syncedwords.writing import book_text, code_text, is_book
 from tests.oracle import CodeCase
 
 CODE = ("ab", "a", "aab", "aa")
@@ -36,6 +40,7 @@ STUCK = ("stuck", (("", "a"), ("", "b"), ("a", ""), ("b", "")))
 KNOWN = ("known", ((0, 1), (0, 1)), ((0,), (1,), (0, 1)))
 JOURNAL = (("drop", "a"), ("keep", "b"), ("keep", "ab"), ("keep", "aab"))
 NEAREST = ((), (("drop",),), ((1, 0, 0), (0, 1, 1)))
+RECORDS = ((("join",), ((),)), (("send", 1), ((0,),)), (("join",), ((0,), ())), (("step",), ((0, 2), (1,))))
 RANKS = ("ranks", (((0, 1), 1), ((1, 0), 1), ((1, 1), 1)), ((0, 1), (1, 0)))
 
 # Each function with arguments, and what it returns, of just this kind.
@@ -164,6 +169,18 @@ RESULTS = (
     (accepts_errors, (("ab", "ba"), "a", 1, [[], [["drop"]], [[1, 0, 0], [0, 1, 1]]]), False),
     (scan, ("a: 0",), [("word", "a", 1), ("sign", ":", 2), ("number", "0", 4), ("end", "", 5)]),
     (scan, ("",), [("end", "", 1)]),
+    (next_tokens, ("a ab", "code"), ["a word", "the end"]),
+    (next_tokens, ("", "book"), ["a word", '":"']),
+    (next_tokens, ("a: 0", "book"), ["a number", '";"', "the end"]),
+    (read_code, ("a ab",), ("a", "ab")),
+    (read_code, ("",), ()),
+    (read_book, ("a: 0 0;; 0",), (("a",), ((0, 0), (), (0,)))),
+    (is_book, ((("a",), ((0, 0), (), (0,))),), True),
+    (is_book, ([["a"], [[0, 0], [], [0]]],), False),
+    (code_text, (("a", "ab"),), "a ab"),
+    (book_text, ((("a",), ((0, 0), (), (0,))),), "a: 0 0;; 0"),
+    (are_right, (SYNCED, RECORDS), True),
+    (are_right, (SYNCED, [[list(command), [list(places) for places in told]] for command, told in RECORDS]), False),
 )
 
 INTERFACE = {
@@ -213,6 +230,13 @@ INTERFACE = {
         "errors_evidence": "code string", "accepts_errors": "code string number value",
     },
     "syncedwords.scanning": {"scan": "text"},
+    "syncedwords.reading": {"next_tokens": "text kind", "read_code": "text", "read_book": "text"},
+    "syncedwords.writing": {"is_book": "value", "code_text": "code", "book_text": "book"},
+    "syncedwords.broadcast": {"Broadcast": "code"},
+    "syncedwords.journals": {"replayed": "code journal", "are_right": "code records"},
+    "syncedwords.errors": {
+        "CodeError": "", "BadValue": "name", "TooLarge": "what", "NotPossible": "why", "TextError": "column words",
+    },
 }
 
 WRONG_CALLS = (
@@ -256,6 +280,17 @@ WRONG_CALLS = (
     (accepts_errors, (("ab", "ba"), "a", [1], [NEAREST])),
     (scan, (["a"],)),
     (scan, ("a d",)),
+    (next_tokens, (["a"], "book")),
+    (next_tokens, ("a", ["book"])),
+    (read_code, ("a a",)),
+    (read_book, ("a: 1",)),
+    (code_text, (["a", "ab"],)),
+    (book_text, ([["a"], [[0]]],)),
+    (Broadcast, (["a", "ab"],)),
+    (replayed, (SYNCED, [["join"]])),
+    (replayed, (SYNCED, (("join",), ["step"]))),
+    (replayed, (SYNCED, (("join",), ("step",)))),
+    (are_right, (["a", "ab"], [[["join"], [[]]]])),
 )
 
 # Calls whose evidence is not told by the document alone.
@@ -326,6 +361,42 @@ class AfterAnError(CodeCase):
             self.assert_same(function(*arguments), expected)
 
 
+class Broadcasts(CodeCase):
+    """Points 2, 3 and 8 of an object."""
+
+    METHODS = {
+        "act": "command", "undo": "", "sent": "", "inside": "", "joined": "", "journal": "", "heard": "number", "knows": "number",
+        "records": "", "twin": "",
+    }
+
+    def test_each_method_is_defined_in_the_class(self):
+        for name, parameters in self.METHODS.items():
+            self.assertIn(name, vars(Broadcast))
+            self.assertEqual(list(inspect.signature(getattr(Broadcast, name)).parameters), ["self"] + parameters.split())
+
+    def test_equal_calls_return_equal_results(self):
+        for _ in range(3):
+            broadcast = replayed(SYNCED, tuple(command for command, _ in RECORDS))
+            for _ in range(3):
+                self.assert_same(broadcast.records(), RECORDS)
+                self.assert_same((broadcast.sent(), broadcast.inside(), broadcast.joined()), ("ab", None, (0, 1)))
+                self.assert_same(broadcast.journal(), tuple(command for command, _ in RECORDS))
+                self.assert_same((broadcast.heard(0), broadcast.knows(0)), ("ab", (0, 2)))
+                self.assert_same((broadcast.heard(1), broadcast.knows(1)), ("b", (1,)))
+
+    def test_a_call_that_raises_an_error_changes_nothing(self):
+        broadcast = replayed(SYNCED, tuple(command for command, _ in RECORDS))
+        wrong = (
+            (broadcast.act, ["join"]), (broadcast.act, ("send", [0])), (broadcast.act, ("step",)), (broadcast.act, ("leave", 2)), (broadcast.heard, [0]),
+            (broadcast.heard, 2), (broadcast.knows, None), (broadcast.knows, 5),
+        )
+        for function, value in wrong:
+            with self.assertRaises(CodeError):
+                function(value)
+            self.assert_same(broadcast.records(), RECORDS)
+            self.assert_same((broadcast.sent(), broadcast.inside(), broadcast.joined()), ("ab", None, (0, 1)))
+
+
 class Interface(unittest.TestCase):
     def test_names_and_arguments(self):
         for path, functions in INTERFACE.items():
@@ -334,7 +405,8 @@ class Interface(unittest.TestCase):
                 with self.subTest(module=path, function=name):
                     function = getattr(module, name)
                     self.assertEqual(function.__module__, path)
-                    self.assertEqual(list(inspect.signature(function).parameters), parameters.split())
+                    if name != "CodeError":
+                        self.assertEqual(list(inspect.signature(function).parameters), parameters.split())
 
 
 if __name__ == "__main__":
