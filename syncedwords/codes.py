@@ -15,14 +15,19 @@ def has_letters(value, least, most):
     return all([letter in LETTERS for letter in value])
 
 
-def is_code(value):
-    """Tell whether the value is a code."""
-    if not isinstance(value, tuple) or len(value) > MOST_WORDS:
+def are_words(value, many, letters):
+    """Tell whether the value is a tuple of at most so many different strings of 1 letter to so many."""
+    if not isinstance(value, tuple) or len(value) > many:
         return False
     # A set can hold the items only once they are known to be strings.
-    if not all([has_letters(word, 1, MOST_WORD_LETTERS) for word in value]):
+    if not all([has_letters(word, 1, letters) for word in value]):
         return False
     return len(set(value)) == len(value)
+
+
+def is_code(value):
+    """Tell whether the value is a code."""
+    return are_words(value, MOST_WORDS, MOST_WORD_LETTERS)
 
 
 def is_string(value):

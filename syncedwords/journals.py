@@ -2,7 +2,7 @@
 
 from syncedwords.broadcast import Broadcast
 from syncedwords.codes import check_code, is_integer, is_tuple_of
-from syncedwords.commands import MOST_COMMANDS, are_commands
+from syncedwords.commands import are_commands
 from syncedwords.errors import BadValue, NotPossible
 
 
@@ -17,24 +17,10 @@ def replayed(code, journal):
     return broadcast
 
 
-def is_told(value):
-    """Tell whether the value is a tuple of tuples of integers."""
-    if not isinstance(value, tuple) or not all([isinstance(places, tuple) for places in value]):
-        return False
-    return all([is_integer(place) for places in value for place in places])
-
-
-def is_record(value):
-    """Tell whether the value is a pair of which the second item can be what listeners know."""
-    return is_tuple_of(value, 2) and is_told(value[1])
-
-
 def are_right(code, records):
     """Tell whether the records are right for the code."""
     check_code(code, "code")
-    if not isinstance(records, tuple) or len(records) > MOST_COMMANDS:
-        return False
-    if not all([is_record(record) for record in records]):
+    if not isinstance(records, tuple) or not all([is_tuple_of(record, 2) for record in records]):
         return False
     journal = tuple([command for command, _ in records])
     if not are_commands(code, journal):
@@ -43,4 +29,7 @@ def are_right(code, records):
         broadcast = replayed(code, journal)
     except NotPossible:
         return False
-    return broadcast.records() == records
+    if broadcast.records() != records:
+        return False
+    # Python takes True for 1, so that what is equal need not be integers.
+    return all([is_integer(place) for _, told in records for places in told for place in places])

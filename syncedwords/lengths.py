@@ -16,11 +16,16 @@ def check_size(size):
     check_number(size, 1, MOST_SIZE, "size")
 
 
+def are_counts(value, lengths, most):
+    """Tell whether the value is a tuple of at most so many integers, from 0 to the most."""
+    if not isinstance(value, tuple) or len(value) > lengths:
+        return False
+    return all([is_number(count, 0, most) for count in value])
+
+
 def check_counts(counts):
     """Raise BadValue if they are not counts."""
-    if not isinstance(counts, tuple) or len(counts) > MOST_LENGTHS:
-        raise BadValue("counts")
-    if not all([is_number(count, 0, MOST_COUNT) for count in counts]):
+    if not are_counts(counts, MOST_LENGTHS, MOST_COUNT):
         raise BadValue("counts")
 
 

@@ -1,8 +1,8 @@
 """Circular codes that are made by eliminating words, and the journals of how this is done."""
 
-from syncedwords.codes import LETTERS, MOST_WORDS, check_number, has_letters, is_number, is_tuple_of
+from syncedwords.codes import LETTERS, MOST_WORDS, are_words, check_number, has_letters, is_tuple_of
 from syncedwords.errors import BadValue, NotPossible
-from syncedwords.lengths import check_size, least_failing
+from syncedwords.lengths import are_counts, check_size, least_failing
 from syncedwords.prefixes import by_length
 from syncedwords.rings import nth_cut, offset, root_of
 
@@ -14,18 +14,8 @@ STEPS = ("keep", "drop")
 
 def check_few_counts(counts):
     """Raise BadValue if they are not counts of a code of at most 6 words."""
-    if not isinstance(counts, tuple) or len(counts) > MOST_LENGTHS:
+    if not are_counts(counts, MOST_LENGTHS, MOST_WORDS) or sum(counts) > MOST_WORDS:
         raise BadValue("counts")
-    if not all([is_number(count, 0, MOST_WORDS) for count in counts]) or sum(counts) > MOST_WORDS:
-        raise BadValue("counts")
-
-
-def check_words(words):
-    """Raise BadValue if they are not words of which one can be eliminated."""
-    if not isinstance(words, tuple) or len(words) > MOST_GIVEN_WORDS:
-        raise BadValue("words")
-    if not all([has_letters(word, 1, MOST_LETTERS) for word in words]) or len(set(words)) < len(words):
-        raise BadValue("words")
 
 
 def check_primitive(size, counts, ring):
@@ -48,7 +38,8 @@ def without(words, word, most):
 
 def eliminated(words, word, most):
     """Return what comes if the word is eliminated from the words, up to so many letters."""
-    check_words(words)
+    if not are_words(words, MOST_GIVEN_WORDS, MOST_LETTERS):
+        raise BadValue("words")
     if word not in words:
         raise BadValue("word")
     check_number(most, 1, MOST_LETTERS, "most")

@@ -26,8 +26,8 @@ def told(token):
 
 def expected(coming):
     """Return the words of the problem that none of what can come is there."""
-    words = ", ".join(coming[:-1])
-    return "expected " + (words + " or " + coming[-1] if len(coming) > 1 else coming[0])
+    # At each place of both grammars at least two kinds of tokens can come.
+    return "expected " + ", ".join(coming[:-1]) + " or " + coming[-1]
 
 
 def coming_behind(tokens, kind):
@@ -50,10 +50,10 @@ def next_tokens(text, kind):
 
 
 def tokens_of(text, kind):
-    """List the tokens of a text that follows the grammar, without the end; raise TextError for others."""
+    """List the tokens of a text that follows the grammar; raise TextError for others."""
     tokens = scan(text)
     coming_behind(tokens, kind)
-    return tokens[:-1]
+    return tokens
 
 
 def code_of_tokens(tokens):

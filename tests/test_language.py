@@ -31,6 +31,11 @@ BARRED = set(
     "dataclass overload contextmanager".split()
 )
 
+BARRED_ATTRIBUTES = set(
+    "items keys values pop update append clear extend insert remove reverse setdefault sort args encode decode hex "
+    "fromhex format".split()
+)
+
 
 def package_files():
     """The paths of all files of the package."""
@@ -153,6 +158,17 @@ class Language(unittest.TestCase):
                     name = getattr(node.func, "id", None) or getattr(node.func, "attr", None)
                     if name in ("range", "zip", "enumerate", "reversed", "items", "keys", "values"):
                         self.assertIn(node, allowed, f"{path}, line {node.lineno}")
+
+    def test_attributes(self):
+        """No attribute has the name of a method of its class, or one that Python's own values keep for themselves."""
+        for place, node in nodes_of(ast.ClassDef):
+            methods = {part.name for part in node.body if isinstance(part, ast.FunctionDef)}
+            attributes = {
+                part.attr for part in ast.walk(node) if isinstance(part, ast.Attribute) and isinstance(part.ctx, ast.Store)
+            }
+            self.assertFalse(attributes & (methods | BARRED_ATTRIBUTES), place)
+            self.assertFalse(methods & {"items", "keys", "values"}, place)
+            self.assertFalse(node.decorator_list, place)
 
     def test_no_two_files_import_from_each_other(self):
         imports = {}
