@@ -31,9 +31,9 @@ def nearest(code, string):
     return min(found)[0], min(found)[2]
 
 
-def searched(code, string):
-    """The same, by going on from the beginning, the fewest errors and the first messages first."""
-    waiting = [(0, 0, "", 0, ())]
+def searched(code, string, place=0, state=()):
+    """The same, from a place and a state on, by going on from there, the fewest errors and the first messages first."""
+    waiting = [(0, 0, "", place, state)]
     done = set()
     while True:
         errors, letters, sent, place, state = heapq.heappop(waiting)
@@ -246,6 +246,23 @@ class Evidence(CodeCase):
                     wrong += 1
         self.assertGreater(right, 50)
         self.assertGreater(wrong, 50)
+
+    def test_right_floors_tell_at_most_the_least_errors(self):
+        """Point 103, of floors that are not those of the evidence."""
+        numbers = random.Random(267)
+        right = 0
+        for code, string in chosen_pairs(100, 268):
+            floors = errors_evidence(code, string)[2]
+            least = [[searched(code, string, place, state or ())[0] for state in all_states(code)] for place in range(len(string) + 1)]
+            rows = [floors]
+            for _ in range(20):
+                rows.append(tuple(tuple(number + numbers.choice((0, 0, 0, 0, -1, -1, 1)) for number in row) for row in floors))
+            for changed in rows:
+                if are_right(code, string, changed):
+                    right += 1
+                    for row, most in zip(changed, least):
+                        self.assertTrue(all(number <= errors for number, errors in zip(row, most)))
+        self.assertGreater(right, 100)
 
     def test_negative_and_great_numbers(self):
         self.assert_same(accepts_errors(PAIR, "ab", 0, ((0,), (KEEP, KEEP), ((0, -1, -1), (-1, 0, 0), (0, 1, 1)))), True)

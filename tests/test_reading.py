@@ -9,6 +9,7 @@ from syncedwords.reading import next_tokens, read_book, read_code
 from syncedwords.writing import book_text, code_text, is_book
 from tests.families import chosen_codes
 from tests.oracle import CODES, CodeCase
+from tests.test_scanning import listed
 
 NO_TOKEN = "no token begins here"
 LONG_WORD = "a word has at most 5 letters"
@@ -45,6 +46,39 @@ def chosen_books(many, seed):
             parses.append(parse)
         books.append((code, tuple(parses)))
     return books
+
+
+def plainly_read(text, kind):
+    """What a text is read as, or the column and the words of its problem, token by token with all rules written out."""
+    tokens = listed(text)
+    if isinstance(tokens, tuple):
+        return tokens
+    seen = ""
+    for one, characters, column in tokens:
+        sign = characters if one == "sign" else one[0]
+        coming = "we" if kind == "code" else "n;e" if ":" in seen else "w:"
+        if sign not in coming:
+            return column, EXPECTED["code" if kind == "code" else "parses" if ":" in seen else "words"]
+        seen += sign
+    words, parses = [], [[]]
+    for one, characters, column in tokens:
+        if one == "word" and len(words) > 5:
+            return column, SIX_WORDS
+        if one == "word" and words.count(characters) > 0:
+            return column, SAME_WORD
+        if characters == ";" and len(parses) > 5:
+            return column, SIX_PARSES
+        if one == "number" and not 0 <= int(characters) < len(words):
+            return column, NO_WORD
+        if one == "word":
+            words.append(characters)
+        if characters == ";":
+            parses.append([])
+        if one == "number":
+            parses[-1].append(int(characters))
+            if sum(len(words[number]) for number in parses[-1]) > 24:
+                return column, LONG_STRING
+    return tuple(words) if kind == "code" else (tuple(words), tuple(tuple(parse) for parse in parses))
 
 
 class ReadingCase(CodeCase):
@@ -288,6 +322,39 @@ class Books(ReadingCase):
             self.assert_same(next_tokens(text, "book"), IN_WORDS)
         for text in (": 0", "a: 7", "a a: 0", "a:;;;;;;;;", "abcab: 0 0 0 0 0 0"):
             self.assert_same(next_tokens(text, "book"), IN_PARSES)
+
+
+class AllRules(ReadingCase):
+    """Points 108 to 112 together, over texts of chosen tokens."""
+
+    def assert_read(self, function, kind, text):
+        expected = plainly_read(text, kind)
+        if len(expected) == 2 and isinstance(expected[0], int):
+            self.assert_problem(function, text, *expected)
+            return expected[1]
+        with self.subTest(text=text):
+            self.assert_same(function(text), expected)
+        return "read"
+
+    def test_chosen_texts(self):
+        numbers = random.Random(285)
+        told = {}
+        for _ in range(6000):
+            words = numbers.sample(["a", "ab", "abcab", "c", "bb", "cab", "bca", "aaaaa", "abcabc"], numbers.randrange(0, 9))
+            words += numbers.choices(words or ["a"], k=numbers.choice((0, 0, 0, 1)))
+            rest = numbers.choices(
+                ["0", "1", "2", "4", "007", ";", ":", "a", "1234567", "d"],
+                [30, 20, 5, 1, 1, numbers.choice((10, 90)), 0.5, 0.5, 0.2, 0.2], k=numbers.randrange(0, 30),
+            )
+            tokens = words + numbers.choice(([":"], [":"], [":"], [], [";"])) + rest
+            text = "".join(token + " " * numbers.choice((0, 1, 1, 1, 2)) for token in tokens)[:500]
+            for function, kind in ((read_code, "code"), (read_book, "book")):
+                part = text if kind == "book" else " ".join(tokens[:numbers.randrange(len(tokens) + 1)])
+                words = self.assert_read(function, kind, part)
+                told[words] = told.get(words, 0) + 1
+        problems = [NO_TOKEN, LONG_WORD, LONG_NUMBER, SIX_WORDS, SAME_WORD, SIX_PARSES, NO_WORD, LONG_STRING] + list(EXPECTED.values())
+        for words in problems + ["read"]:
+            self.assertGreater(told.get(words, 0), 5, words)
 
 
 class Back(ReadingCase):
